@@ -1,0 +1,1 @@
+"""Curvepieces: into how many pieces a curve falls, over all numbers and modulo primes."""

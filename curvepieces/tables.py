@@ -1,0 +1,74 @@
+"""Tables of INTEGERS, lists of rows: determinants, which columns are bound, what solves all rows.
+
+All steps stay within INTEGERS: after each one, every number is a minor of the table, so the division by the pivot
+of the step ahead leaves no rest.
+"""
+
+
+def determinant(rows):
+    """The determinant of a table with as many columns as rows; 1 of none."""
+    table = [list(row) for row in rows]
+    sign, last = 1, 1
+    for at in range(len(table)):
+        fit = [k for k in range(at, len(table)) if table[k][at] != 0]
+        if len(fit) == 0:
+            return 0
+        if fit[0] != at:
+            table[at], table[fit[0]] = table[fit[0]], table[at]
+            sign = -sign
+        for k in range(at + 1, len(table)):
+            table[k] = _cleared(table[k], table[at], at, last)
+        last = table[at][at]
+    return sign * last
+
+
+def _cleared(row, pivot_row, column, last):
+    """The row with a nought in the column, by the pivot's row."""
+    pivot, number = pivot_row[column], row[column]
+    return [(pivot * a - number * b) // last for a, b in zip(row, pivot_row)]
+
+
+def eliminated(rows, width):
+    """(rows, bound, pivot): the bound columns, and for each one a row.
+
+    The row has the pivot in its own bound column, 0 in the others; the rows have the same solutions as the table.
+    """
+    table = [list(row) for row in rows]
+    bound, last = [], 1
+    for column in range(width):
+        at = len(bound)
+        fit = [k for k in range(at, len(table)) if table[k][column] != 0]
+        if len(fit) == 0:
+            continue
+        table[at], table[fit[0]] = table[fit[0]], table[at]
+        for k in range(len(table)):
+            if k != at:
+                table[k] = _cleared(table[k], table[at], column, last)
+        last = table[at][column]
+        bound.append(column)
+    return table[:len(bound)], bound, last
+
+
+def bound_columns(rows, width):
+    """The columns that are no sum of the columns ahead of them, each times a number."""
+    return eliminated(rows, width)[1]
+
+
+def exchanged_table(rows, width):
+    """The table whose rows are the columns."""
+    return [[row[column] for row in rows] for column in range(width)]
+
+
+def solutions(rows, width):
+    """For each column that is not bound the numbers that solve all rows, 0 at the other such columns."""
+    table, bound, pivot = eliminated(rows, width)
+    found = []
+    for loose in range(width):
+        if loose in bound:
+            continue
+        numbers = [0] * width
+        numbers[loose] = pivot
+        for row, column in zip(table, bound):
+            numbers[column] = -row[loose]
+        found.append(numbers)
+    return found

@@ -1,0 +1,27 @@
+"""The examples of the document's interface, as they stand there: names stay what they were in the one ahead."""
+
+import doctest
+import os
+import unittest
+
+FOLDER = os.path.join(os.path.dirname(os.path.abspath(__file__)), "examples")
+
+
+class ExamplesTest(unittest.TestCase):
+
+    def run_file(self, name, many):
+        """All examples of a file, in one namespace; a failing one is told."""
+        with open(os.path.join(FOLDER, name), encoding="ascii") as file:
+            text = file.read()
+        test = doctest.DocTestParser().get_doctest(text, {}, name, name, 0)
+        self.assertEqual(len(test.examples), many)
+        told = []
+        result = doctest.DocTestRunner(verbose=False).run(test, out=told.append)
+        self.assertEqual((result.failed, result.attempted), (0, many), "".join(told))
+
+    def test_numbers_lines_and_parts_of_lines(self):
+        self.run_file("stage1.txt", 7)
+
+
+if __name__ == "__main__":
+    unittest.main()
