@@ -79,6 +79,7 @@ def poly_divided(one, two):
     quotient = [0] * max(0, len(one) - len(two) + 1)
     top = two[-1]
     while len(rest) >= len(two):
+        # The bottom of the next number of the quotient, the least factor that makes an INTEGER of it.
         factor = abs(top) // gcd(rest[-1], top)
         number = rest[-1] * factor // top
         shift = len(rest) - len(two)
@@ -86,9 +87,7 @@ def poly_divided(one, two):
         quotient = [factor * part for part in quotient]
         quotient[shift] = number
         rest = poly_less(scaled(rest, factor), [0] * shift + scaled(two, number))
-    # The steps may have multiplied by more than the quotient needs, taken as a whole.
-    common = gcd(least, content(quotient))
-    return least // common, [part // common for part in quotient], [part // common for part in rest]
+    return least, quotient, rest
 
 
 def poly_quotient(one, two):

@@ -31,12 +31,7 @@ NOT_CHANGES = STRANGE + [0, 1, -7, [], (), [1], [1, 0, 0, 0, 1], [1, 0, 0, 0, 1,
                          b"\1\0\0\0\1\0", range(6), {0: 1, 1: 0, 2: 0, 3: 0, 4: 1, 5: 0}]
 
 
-def told_name(function, names):
-    """What stands in the message of a failing test."""
-    return f"{function.__name__}({', '.join(names)})"
-
-
-def refused(test, error, function, *given, **named):
+def refused(test, error, function, /, *given, **named):
     """The error that the call raises: its class is just this one."""
     told = f"{function.__name__}{given}{named}"
     try:
@@ -47,13 +42,13 @@ def refused(test, error, function, *given, **named):
     test.fail(f"{told} returned {result!r}")
 
 
-def refused_value(test, error, value, function, *given, **named):
+def refused_value(test, error, value, function, /, *given, **named):
     """The call raises this error, with this very value in it."""
     raised = refused(test, error, function, *given, **named)
     test.assertIs(raised.value, value)
 
 
-def refused_limit(test, what, limit, function, *given, **named):
+def refused_limit(test, what, limit, function, /, *given, **named):
     """The call raises TooMany with these attributes."""
     from curvepieces.errors import TooMany
     raised = refused(test, TooMany, function, *given, **named)
@@ -63,7 +58,7 @@ def refused_limit(test, what, limit, function, *given, **named):
 def check_parameters(test, function, wanted):
     """Each parameter refuses each wrong value, by place and by name, the first wrong one ahead of later ones.
 
-    wanted has for each parameter its name, a value that is let, its wrong values, and its error.
+    wanted has for each parameter its name, a value that is let, its wrong values (none where any is let), its error.
     """
     names = [name for name, _, _, _ in wanted]
     valid = [value for _, value, _, _ in wanted]
@@ -73,7 +68,7 @@ def check_parameters(test, function, wanted):
             refused_value(test, error, wrong, function, *given)
             refused_value(test, error, wrong, function, **dict(zip(names, given)))
             for later in range(at + 1, len(wanted)):
-                for also in (wanted[later][2][0], wanted[later][2][-1]):
+                for also in wanted[later][2][:1] + wanted[later][2][-1:]:
                     both = given[:later] + [also] + given[later + 1:]
                     refused_value(test, error, wrong, function, *both)
                     refused_value(test, error, wrong, function, **dict(zip(names, both)))

@@ -22,6 +22,9 @@ class ExamplesTest(unittest.TestCase):
     def test_numbers_lines_and_parts_of_lines(self):
         self.run_file("stage1.txt", 7)
 
+    def test_planes_letters_parts_of_planes_and_slopes(self):
+        self.run_file("stage2.txt", 15)
+
 
 if __name__ == "__main__":
     unittest.main()

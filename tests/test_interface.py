@@ -11,6 +11,16 @@ INTERFACE = {
               "line_times": ["line", "other"], "line_divided": ["line", "other"], "line_common": ["line", "other"],
               "resultant": ["line", "other"]},
     "lineparts": {"plain_parts": ["line"], "whole_roots": ["line"], "monic_parts": ["line"]},
+    "planes": {"is_plane": ["value"], "degrees": ["plane"], "head": ["plane"], "plane_sum": ["plane", "other"],
+               "plane_less": ["plane", "other"], "plane_times": ["plane", "other"],
+               "plane_value": ["plane", "x", "y"], "at_x": ["plane", "number"], "at_y": ["plane", "number"],
+               "slope_x": ["plane"], "slope_y": ["plane"], "plain_plane": ["plane"]},
+    "letters": {"exchanged": ["plane"], "is_change": ["value"], "changed": ["plane", "change"]},
+    "planeparts": {"goes_into": ["plane", "other"], "plane_quotient": ["plane", "other"],
+                   "plane_common": ["plane", "other"], "is_clean": ["plane"], "clean_place": ["plane"]},
+    "slopes": {"unknowns": ["plane"], "slope_table": ["plane"], "slope_rows": ["plane"], "piece_count": ["plane"],
+               "is_slope_row": ["plane", "value"], "minor": ["plane", "equations", "places"],
+               "count_paper": ["plane"], "is_count_paper": ["plane", "many", "value"]},
 }
 
 

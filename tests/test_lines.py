@@ -209,7 +209,10 @@ class CommonPartTest(unittest.TestCase):
 class ResultantTest(unittest.TestCase):
 
     def test_sylvesters_table(self):
-        for one, two in mixed(7, 120, 3):
+        # With few numbers but 0, 1 and -1 there are noughts in the way wherever one can be.
+        small = [plain.cut(line) for line in product([-1, 0, 1], repeat=3)]
+        small += [list(line) + [1] for line in product([0, 1], repeat=3)]
+        for one, two in mixed(7, 40, 3) + list(product(small, small)):
             if one and two:
                 m, n = len(one) - 1, len(two) - 1
                 rows = [[0] * i + one[::-1] + [0] * (n - 1 - i) for i in range(n)]
