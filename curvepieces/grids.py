@@ -89,7 +89,7 @@ def grid_plain(plane):
 
 def grid_quotient(one, two):
     """The polynomial with INTEGERS that, times two, is one; None if there is none."""
-    rest, parts = [list(line) for line in one], []
+    rest, parts = list(one), []
     for shift in range(len(one) - len(two), -1, -1):
         part = poly_quotient(rest[shift + len(two) - 1], two[-1])
         if part is None:
@@ -99,7 +99,7 @@ def grid_quotient(one, two):
             rest[shift + i] = poly_less(rest[shift + i], poly_times(part, line))
     if any([len(line) > 0 for line in rest]):
         return None
-    return grid_trimmed(parts[::-1])
+    return parts[::-1]
 
 
 def grid_common(one, two):

@@ -7,7 +7,7 @@ of the step ahead leaves no rest.
 
 def determinant(rows):
     """The determinant of a table with as many columns as rows; 1 of none."""
-    table = [list(row) for row in rows]
+    table = list(rows)
     sign, last = 1, 1
     for at in range(len(table)):
         fit = [k for k in range(at, len(table)) if table[k][at] != 0]
@@ -33,7 +33,7 @@ def eliminated(rows, width):
 
     The row has the pivot in its own bound column, 0 in the others; the rows have the same solutions as the table.
     """
-    table = [list(row) for row in rows]
+    table = list(rows)
     bound, last = [], 1
     for column in range(width):
         at = len(bound)

@@ -8,6 +8,7 @@ from math import gcd, lcm
 from curvepieces.errors import InvalidLine, InvalidNumber, ZeroLine
 from curvepieces.lines import (degree, is_line, line_common, line_divided, line_less, line_slope, line_sum, line_times,
                                line_value, plain_line, resultant)
+from curvepieces.polys import poly_quotient
 from tests import plain
 from tests.support import (NOT_INTEGERS, NOT_LINES, Dice, as_tuples, check_call, check_judge, check_parameters,
                            refused, refused_limit)
@@ -159,6 +160,22 @@ class DivisionTest(unittest.TestCase):
         for line in EDGES:
             refused(self, ZeroLine, line_divided, line, [])
             refused(self, ZeroLine, line_divided, line=line, other=())
+
+
+class QuotientTest(unittest.TestCase):
+    """What other files divide by: it is told only where it has INTEGERS alone and no rest is left."""
+
+    def test_products_alone(self):
+        for one, two in mixed(10):
+            if two:
+                both = plain.times(one, two)
+                self.assertEqual(poly_quotient(both, two), one)
+                if len(two) > 1:
+                    self.assertIsNone(poly_quotient(plain.plus(both, [1]), two))
+                    self.assertIsNone(poly_quotient(two[:1] + [1], [0] + two))
+        self.assertIsNone(poly_quotient([1], [2]))
+        self.assertIsNone(poly_quotient([1, 2, 1], [2, 2]))
+        self.assertEqual(poly_quotient([], [2, 2]), [])
 
 
 class CommonPartTest(unittest.TestCase):

@@ -135,6 +135,16 @@ class CommonPartTest(unittest.TestCase):
             self.assertEqual(plane_common([line], [[1], line]), [[1]])
             self.assertEqual(plane_common([line, [3]], [[6, 0, 2], [6]]), [[1]])
 
+    def test_parts_in_one_letter(self):
+        # At a number in the place of y near to the root only a number is left of y less it.
+        for root in list(range(-40, 41)) + [999983, -999999, 10 ** 29]:
+            line = plain.cut([-root, 1])
+            for part in ([line], [line, line], [[], line], [[-root or 2], [1]]):
+                wanted = plain_plane(part)
+                self.assertEqual(plane_common(part, part), wanted)
+                for one, two in (([[1]], [[], [1]]), ([[3, 1], [2]], [[1], [5, 1]]), ([[-6, 1]], [[10, 4]])):
+                    self.assertEqual(plane_common(plain.product(part, one), plain.product(part, two)), wanted)
+
     def test_greater_numbers_in_the_part_than_in_both(self):
         # Of x to the 8 less 1 alone the numbers are less than those of some of its parts.
         first = plain.product([[1], [1]], [[1], [1]], [[1, 1], [1]], [[-1], [1]], [[-1], [1]])
