@@ -1,4 +1,6 @@
-"""What values are: INTEGERS, COUNTS, lists, positions."""
+"""What values are: INTEGERS, COUNTS, lists, positions, FRACTIONS."""
+
+from math import gcd
 
 from curvepieces.errors import InvalidMany, InvalidNumber
 
@@ -32,3 +34,9 @@ def check_many(many, most):
     """InvalidMany unless a COUNT that is at most the bound."""
     if not is_integer(many) or many < 0 or many > most:
         raise InvalidMany(many)
+
+
+def fraction(top, bottom):
+    """The FRACTION of the top and the bottom, which is above 0."""
+    common = gcd(top, bottom)
+    return top // common, bottom // common

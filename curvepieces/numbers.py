@@ -2,6 +2,7 @@
 
 from math import gcd
 
+from curvepieces.errors import InvalidPrime
 from curvepieces.kinds import check_number, is_integer
 
 PRIMES_END = 10000
@@ -24,3 +25,9 @@ def is_prime(value):
             return False
         part += 1
     return True
+
+
+def check_prime(prime):
+    """InvalidPrime unless a prime below 10,000."""
+    if not is_prime(prime):
+        raise InvalidPrime(prime)

@@ -46,13 +46,18 @@ def check_clean(plane):
 def clean_place(plane):
     """The least clean place of the plane that is a COUNT."""
     check_clean(plane)
+    return least_clean_place(plane)
+
+
+def least_clean_place(plane):
+    """The least clean place of a clean plane that is a COUNT."""
     place = 0
-    while not _is_clean_place(plane, place):
+    while not is_clean_place(plane, place):
         place += 1
     return place
 
 
-def _is_clean_place(plane, place):
+def is_clean_place(plane, place):
     """Whether a clean plane leaves at the place for y a line of its degree in x, without double roots."""
     line = grid_at_y(plane, place)
     return len(line) == len(plane) and poly_common(line, poly_slope(line)) == [1]

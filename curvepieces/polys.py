@@ -73,6 +73,12 @@ def poly_plain(numbers):
     return [number // common for number in numbers]
 
 
+def plain_numbers(numbers):
+    """The numbers, not all 0, without a common divisor; the last one that is not 0 is above 0."""
+    short = trimmed(numbers)
+    return poly_plain(short) + [0] * (len(numbers) - len(short))
+
+
 def poly_divided(one, two):
     """(least, quotient, rest): the least number above 0 that, times one, is the quotient times two and the rest."""
     least, rest = 1, list(one)

@@ -5,8 +5,8 @@ from curvepieces.grids import grid_degrees
 from curvepieces.kinds import check_many, is_list, is_positions
 from curvepieces.planeparts import check_clean
 from curvepieces.planes import check_degrees, check_plane, is_plane
-from curvepieces.slopetables import equation_table, numbers_of, told_rows, unknown_list
-from curvepieces.tables import bound_columns, determinant, exchanged_table
+from curvepieces.slopetables import bound_positions, equation_table, numbers_of, table_minor, told_rows, unknown_list
+from curvepieces.tables import bound_columns
 
 TABLE_DEGREE = 4
 MANY_MOST = 20
@@ -76,20 +76,14 @@ def minor(plane, equations, places):
         raise InvalidPositions(equations)
     if not is_positions(places, width) or len(places) != len(equations):
         raise InvalidPositions(places)
-    return _minor(table, equations, places)
-
-
-def _minor(table, equations, places):
-    """The determinant of the table's numbers in these rows and columns."""
-    return determinant([[table[at][place] for place in places] for at in equations])
+    return table_minor(table, equations, places)
 
 
 def count_paper(plane):
     """A count paper of the plane: the told rows, the bound equations, the bound unknowns."""
     check_table_plane(plane)
-    table, width = equation_table(plane), len(unknown_list(plane))
-    turned = exchanged_table(table, width)
-    return told_rows(plane), bound_columns(turned, len(table)), bound_columns(table, width)
+    equations, places = bound_positions(equation_table(plane), len(unknown_list(plane)))
+    return told_rows(plane), equations, places
 
 
 def is_count_paper(plane, many, value):
@@ -121,4 +115,4 @@ def _shows_no_more(plane, many, equations, places):
         return False
     if len(equations) != width - many or len(places) != width - many:
         return False
-    return _minor(table, equations, places) != 0
+    return table_minor(table, equations, places) != 0

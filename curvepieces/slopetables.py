@@ -4,8 +4,8 @@ Nothing here checks what it is passed. (m, n) are the degrees, m is at least 1.
 """
 
 from curvepieces.grids import grid_degrees, grid_trimmed
-from curvepieces.polys import poly_plain
-from curvepieces.tables import solutions
+from curvepieces.polys import plain_numbers
+from curvepieces.tables import bound_columns, determinant, exchanged_table, solutions
 
 
 def unknown_list(plane):
@@ -35,18 +35,30 @@ def _column(plane, unknown, m, n):
     return column
 
 
+def least_bound(plane):
+    """(2 m - 1) n: modulo a prime that is not above it, the table need not tell the count."""
+    m, n = grid_degrees(plane)
+    return (2 * m - 1) * n
+
+
+def bound_positions(table, width):
+    """The positions of the bound equations, and those of the bound unknowns, of a table of this width."""
+    turned = exchanged_table(table, width)
+    return bound_columns(turned, len(table)), bound_columns(table, width)
+
+
+def table_minor(table, equations, places):
+    """The determinant of the table's numbers in these rows and columns."""
+    return determinant([[table[at][place] for place in places] for at in equations])
+
+
 def told_rows(plane):
-    """For each loose unknown the slope row that is above 0 at it and 0 at the other loose ones."""
+    """For each loose unknown the slope row that is above 0 at it and 0 at the other loose ones.
+
+    The loose unknown is the last one at which the row is not 0.
+    """
     width = len(unknown_list(plane))
-    return [_row_of(plane, _told(numbers)) for numbers in solutions(equation_table(plane), width)]
-
-
-def _told(numbers):
-    """The numbers without a common divisor; the loose one, the last that is not 0, above 0."""
-    size = len(numbers)
-    while numbers[size - 1] == 0:
-        size -= 1
-    return poly_plain(numbers[:size]) + numbers[size:]
+    return [_row_of(plane, plain_numbers(numbers)) for numbers in solutions(equation_table(plane), width)]
 
 
 def _row_of(plane, numbers):

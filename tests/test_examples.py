@@ -25,6 +25,12 @@ class ExamplesTest(unittest.TestCase):
     def test_planes_letters_parts_of_planes_and_slopes(self):
         self.run_file("stage2.txt", 15)
 
+    def test_products_parts_over_the_fractions_numbers_over_roots_and_pieces(self):
+        self.run_file("stage3.txt", 14)
+
+    def test_rests_modulo_primes_guards_curves_and_followers(self):
+        self.run_file("stage4.txt", 13)
+
 
 if __name__ == "__main__":
     unittest.main()

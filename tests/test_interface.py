@@ -21,6 +21,21 @@ INTERFACE = {
     "slopes": {"unknowns": ["plane"], "slope_table": ["plane"], "slope_rows": ["plane"], "piece_count": ["plane"],
                "is_slope_row": ["plane", "value"], "minor": ["plane", "equations", "places"],
                "count_paper": ["plane"], "is_count_paper": ["plane", "many", "value"]},
+    "products": {"product_table": ["plane"], "one_row": ["plane"], "own_line": ["plane", "row"],
+                 "parts_all": ["plane", "row"], "parting_row": ["plane"]},
+    "fracparts": {"part_lines": ["plane"], "fraction_parts": ["plane"], "is_whole": ["plane"]},
+    "rootnumbers": {"is_root": ["value"], "is_number": ["root", "value"], "root_plus": ["root", "one", "other"],
+                    "root_times": ["root", "one", "other"], "root_over": ["root", "one", "other"],
+                    "norm": ["root", "one"]},
+    "pieces": {"pieces": ["plane"], "product_over": ["root", "rows"], "is_piece": ["plane", "value"]},
+    "residues": {"plane_modulo": ["plane", "prime"], "is_clean_modulo": ["plane", "prime"],
+                 "count_modulo": ["plane", "prime"]},
+    "guards": {"prime_bound": ["plane"], "guards": ["plane"], "is_good": ["plane", "prime"], "least_good": ["plane"]},
+    "curves": {"is_curve": ["value"], "curve_degree": ["curve"], "point_at": ["curve", "number"],
+               "point_after": ["curve"], "by_time": ["curve", "line"]},
+    "followers": {"is_follower": ["curve", "value"], "follower_degrees": ["curve"], "followers": ["curve"],
+                  "is_pair": ["curve", "value"], "follower_count": ["curve", "many"],
+                  "by_pair": ["curve", "pair", "follower"]},
 }
 
 

@@ -134,8 +134,8 @@ class RowsTest(unittest.TestCase):
                         self.assertNotIn(told, taken, where)
 
     def test_methods(self):
+        own = {node.name for _, tree in trees() for node in ast.walk(tree) if isinstance(node, ast.FunctionDef)}
         for name, tree in trees():
-            own = {node.name for node in ast.walk(tree) if isinstance(node, ast.FunctionDef)}
             for node in ast.walk(tree):
                 if isinstance(node, ast.Call) and isinstance(node.func, ast.Attribute):
                     self.assertIn(node.func.attr, METHODS | own, f"{name}:{node.lineno}")
