@@ -3,8 +3,8 @@
 Nothing here checks what it is passed; tuples are let for lists, what is returned is new, also inside.
 """
 
-from curvepieces.polys import content, poly_common, poly_divided, poly_less, poly_plain, poly_quotient, poly_slope
-from curvepieces.polys import poly_sum, poly_times, poly_value, scaled, trimmed
+from curvepieces.polys import content, poly_common, poly_less, poly_quotient, poly_slope, poly_sum, poly_times
+from curvepieces.polys import poly_value, scaled, trimmed
 
 
 def grid_trimmed(rows):

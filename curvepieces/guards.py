@@ -7,7 +7,8 @@ from curvepieces.planeparts import least_clean_place
 from curvepieces.planes import check_plane
 from curvepieces.polys import poly_slope
 from curvepieces.slopes import check_table_plane
-from curvepieces.slopetables import bound_positions, equation_table, least_bound, table_minor, unknown_list
+from curvepieces.slopetables import equation_table, least_bound
+from curvepieces.tables import bound_places
 
 
 def prime_bound(plane):
@@ -25,9 +26,7 @@ def guards(plane):
 def _guards_of(plane):
     """The guards of a clean plane."""
     line = grid_at_y(plane, least_clean_place(plane))
-    table = equation_table(plane)
-    equations, places = bound_positions(table, len(unknown_list(plane)))
-    return [abs(resultant(line, poly_slope(line))), abs(table_minor(table, equations, places))]
+    return [abs(resultant(line, poly_slope(line))), bound_places(equation_table(plane))[2]]
 
 
 def is_good(plane, prime):

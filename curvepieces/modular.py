@@ -7,11 +7,6 @@ from curvepieces.grids import grid_less, grid_slope_x, grid_trimmed
 from curvepieces.polys import poly_times, trimmed
 
 
-def poly_modulo(numbers, prime):
-    """The polynomial of the rests that the numbers leave."""
-    return trimmed([number % prime for number in numbers])
-
-
 def grid_modulo(plane, prime):
     """The polynomial in x and y of the rests that the numbers leave."""
     return grid_trimmed([[number % prime for number in line] for line in plane])

@@ -13,7 +13,10 @@ from curvepieces.slopes import check_table_plane, piece_count
 
 
 def pieces(plane):
-    """The sorted list of the pieces of the plane, tuples (root, rows), one for each part line."""
+    """The sorted list of the pieces of the plane, tuples (root, rows), one for each part line.
+
+    The part lines are unlike and sorted, so the pieces are sorted as they come.
+    """
     check_table_plane(plane)
     told = Products(plane)
     row = told.parting()
@@ -21,7 +24,7 @@ def pieces(plane):
     for root in monic_parts(told.own(row)):
         whole = part_plane(plane, told, row, root)
         found.append((root, common_rows(root, plane, whole, first)))
-    return sorted(found)
+    return found
 
 
 def product_over(root, rows):

@@ -36,14 +36,20 @@ def has_head_one(rows):
 
 def rows_product(root, rows):
     """The plain product of the rows over all roots of the line: the norm of the rows, in both letters."""
-    bottom = 1
-    for line in rows:
-        for number in line:
-            bottom = lcm(bottom, number[1])
+    bottom = _common_bottom(rows)
     columns = [_shifted(root, rows, bottom, power) for power in range(len(root) - 1)]
     table = [[grid_trimmed([[number[at] for number in line] for line in column]) for column in columns]
              for at in range(len(root) - 1)]
     return grid_plain(_grid_determinant(table))
+
+
+def _common_bottom(rows):
+    """The least number above 0 that is a multiple of all bottoms."""
+    bottom = 1
+    for line in rows:
+        for number in line:
+            bottom = lcm(bottom, number[1])
+    return bottom
 
 
 def _shifted(root, rows, bottom, power):
@@ -67,9 +73,7 @@ def rows_go_into(root, plane, rows):
     """Whether the rows, their head one, go into the plane over the root."""
     rest = [over_poly(root, line) for line in plane]
     for shift in range(len(plane) - len(rows), -1, -1):
-        part, left = over_divided(root, rest[shift + len(rows) - 1], rows[-1])
-        if len(left) > 0:
-            return False
+        part = over_divided(root, rest[shift + len(rows) - 1], rows[-1])[0]
         for at, line in enumerate(rows):
             rest[shift + at] = _less_times(root, rest[shift + at], part, line)
     return not any([len(line) > 0 for line in rest])

@@ -56,7 +56,7 @@ class Products:
         """Numbers, times a number not 0, of what comes of the line if the row is put in for its letter."""
         table, many = self.table_by(row), len(row)
         result, bottom = [0] * many, 1
-        for number in list(line)[::-1]:
+        for number in line[::-1]:
             # Each step multiplies by a table over the bottom and adds ones over it.
             moved = [sum([result[j] * table[j][k] for j in range(many)]) for k in range(many)]
             result = [a + number * bottom * b for a, b in zip(moved, self.one)]
@@ -100,10 +100,9 @@ def _rests(polys, line):
     found, common = [], 1
     for poly in polys:
         least, _, rest = poly_divided(poly, line)
-        found.append((least, rest))
+        found.append((least, rest + [0] * (len(line) - 1 - len(rest))))
         common = lcm(common, least)
-    return [[common // least * number for number in rest] + [0] * (len(line) - 1 - len(rest))
-            for least, rest in found]
+    return [[common // factor * number for number in numbers] for factor, numbers in found]
 
 
 def _own_poly(rows, bottom):
@@ -115,7 +114,7 @@ def _own_poly(rows, bottom):
     many = len(rows)
     falling, table = [1], [[0] * many for _ in range(many)]
     for step in range(1, many + 1):
-        added = [[number + falling[-1] if i == j else number for j, number in enumerate(row)]
+        added = [[entry + falling[-1] if i == j else entry for j, entry in enumerate(row)]
                  for i, row in enumerate(table)]
         table = [[sum([row[k] * added[k][j] for k in range(many)]) for j in range(many)] for row in rows]
         falling.append(-sum([table[i][i] for i in range(many)]) // step)

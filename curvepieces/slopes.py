@@ -5,8 +5,8 @@ from curvepieces.grids import grid_degrees
 from curvepieces.kinds import check_many, is_list, is_positions
 from curvepieces.planeparts import check_clean
 from curvepieces.planes import check_degrees, check_plane, is_plane
-from curvepieces.slopetables import bound_positions, equation_table, numbers_of, table_minor, told_rows, unknown_list
-from curvepieces.tables import bound_columns
+from curvepieces.slopetables import equation_table, numbers_of, table_minor, told_rows, unknown_list
+from curvepieces.tables import bound_places
 
 TABLE_DEGREE = 4
 MANY_MOST = 20
@@ -39,8 +39,7 @@ def slope_rows(plane):
 def piece_count(plane):
     """Into how many pieces the plane falls over all numbers."""
     check_table_plane(plane)
-    width = len(unknown_list(plane))
-    return width - len(bound_columns(equation_table(plane), width))
+    return len(unknown_list(plane)) - len(bound_places(equation_table(plane))[0])
 
 
 def is_slope_row(plane, value):
@@ -82,7 +81,7 @@ def minor(plane, equations, places):
 def count_paper(plane):
     """A count paper of the plane: the told rows, the bound equations, the bound unknowns."""
     check_table_plane(plane)
-    equations, places = bound_positions(equation_table(plane), len(unknown_list(plane)))
+    equations, places, _ = bound_places(equation_table(plane))
     return told_rows(plane), equations, places
 
 
@@ -105,7 +104,7 @@ def _shows_no_fewer(plane, many, rows):
     if not all([_is_row(plane, table, row) for row in rows]):
         return False
     numbers = [numbers_of(plane, row) for row in rows]
-    return len(bound_columns(numbers, len(unknown_list(plane)))) == many
+    return len(bound_places(numbers)[0]) == many
 
 
 def _shows_no_more(plane, many, equations, places):

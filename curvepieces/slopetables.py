@@ -5,7 +5,7 @@ Nothing here checks what it is passed. (m, n) are the degrees, m is at least 1.
 
 from curvepieces.grids import grid_degrees, grid_trimmed
 from curvepieces.polys import plain_numbers
-from curvepieces.tables import bound_columns, determinant, exchanged_table, solutions
+from curvepieces.tables import determinant, solutions
 
 
 def unknown_list(plane):
@@ -39,12 +39,6 @@ def least_bound(plane):
     """(2 m - 1) n: modulo a prime that is not above it, the table need not tell the count."""
     m, n = grid_degrees(plane)
     return (2 * m - 1) * n
-
-
-def bound_positions(table, width):
-    """The positions of the bound equations, and those of the bound unknowns, of a table of this width."""
-    turned = exchanged_table(table, width)
-    return bound_columns(turned, len(table)), bound_columns(table, width)
 
 
 def table_minor(table, equations, places):

@@ -1,4 +1,4 @@
-"""Tables of INTEGERS, lists of rows: determinants, which columns are bound, what solves all rows.
+"""Tables of INTEGERS, lists of rows: determinants, which rows and columns are bound, what solves all rows.
 
 All steps stay within INTEGERS: after each one, every number is a minor of the table, so the division by the pivot
 of the step ahead leaves no rest.
@@ -49,14 +49,24 @@ def eliminated(rows, width):
     return table[:len(bound)], bound, last
 
 
-def bound_columns(rows, width):
-    """The columns that are no sum of the columns ahead of them, each times a number."""
-    return eliminated(rows, width)[1]
+def bound_places(rows):
+    """(rows, columns, minor): the positions of the rows, and of the columns, that are bound.
 
-
-def exchanged_table(rows, width):
-    """The table whose rows are the columns."""
-    return [[row[column] for row in rows] for column in range(width)]
+    These are no sum of those ahead of them, each times a number. The minor, without its sign, is that of both.
+    """
+    kept, found = [], []
+    for at, row in enumerate(rows):
+        left, last = row, 1
+        for pivot_row, column in kept:
+            left = _cleared(left, pivot_row, column, last)
+            last = pivot_row[column]
+        fit = [column for column, number in enumerate(left) if number != 0]
+        if len(fit) > 0:
+            kept.append((left, fit[0]))
+            found.append(at)
+    # Each mix of what is kept has its first number that is not 0 in one of these columns: just these are bound.
+    minor = abs(kept[-1][0][kept[-1][1]]) if len(kept) > 0 else 1
+    return found, sorted([column for _, column in kept]), minor
 
 
 def solutions(rows, width):

@@ -4,15 +4,18 @@ import doctest
 import os
 import unittest
 
-FOLDER = os.path.join(os.path.dirname(os.path.abspath(__file__)), "examples")
+HERE = os.path.dirname(os.path.abspath(__file__))
+FOLDER, README = os.path.join(HERE, "examples"), os.path.join(os.path.dirname(HERE), "README.md")
 
 
 class ExamplesTest(unittest.TestCase):
 
     def run_file(self, name, many):
-        """All examples of a file, in one namespace; a failing one is told."""
+        """All examples of a file of the folder, in one namespace; a failing one is told."""
         with open(os.path.join(FOLDER, name), encoding="ascii") as file:
-            text = file.read()
+            self.run_text(name, file.read(), many)
+
+    def run_text(self, name, text, many):
         test = doctest.DocTestParser().get_doctest(text, {}, name, name, 0)
         self.assertEqual(len(test.examples), many)
         told = []
@@ -30,6 +33,10 @@ class ExamplesTest(unittest.TestCase):
 
     def test_rests_modulo_primes_guards_curves_and_followers(self):
         self.run_file("stage4.txt", 13)
+
+    def test_how_to_use_it(self):
+        with open(README, encoding="ascii") as file:
+            self.run_text("README.md", file.read().replace("```", ""), 26)
 
 
 if __name__ == "__main__":

@@ -333,6 +333,20 @@ class IsPieceTest(unittest.TestCase):
         for value in wrong:
             self.assertIs(is_piece(TWIN, value), False, value)
 
+    def test_what_leaves_a_number_alone(self):
+        for rows in (line_rows(SQRT, [], [1, 1]), line_rows(SQRT, [], [3, 1])):
+            self.assertIs(is_piece(product_over(SQRT, rows), (SQRT, rows)), True)
+            self.assertIs(is_piece([[-2], [], [1]], (SQRT, rows)), False)
+            self.assertIs(is_piece(plain.product([[-2], [], [1]], [[0, 1], [1]]), (SQRT, rows)), False)
+
+    def test_a_whole_plane_over_a_root_of_degree_four(self):
+        for plane in ([[0, 0, 0, 0, -2], [], [], [], [1]], [[-1, 0, 0, 0, 1], [], [], [], [1]]):
+            for root in (PLUS, [-2, 0, 0, 0, 1], [-2, 0, 0, 1], SQRT):
+                rows = [[([part] + [0] * (len(root) - 2), 1) for part in line] for line in plane]
+                self.assertIs(is_piece(plane, (root, rows)), False)
+            rows = [[([part], 1) for part in line] for line in plane]
+            self.assertIs(is_piece(plane, ([0, 1], rows)), plane[0][0] == -1)
+
     def test_rows_of_great_degrees(self):
         one, nought = number(1, 0), number(0, 0)
         for rows in ([[one]] * 9, [[nought] * 8 + [one]] * 9, [[nought] * 8 + [one], [one]], [[]] * 8 + [[one]]):
