@@ -20,6 +20,11 @@ def grid_degrees(plane):
     return len(plane) - 1, max([len(line) for line in plane], default=0) - 1
 
 
+def grid_total(plane):
+    """The greatest sum of both powers in one term of a polynomial that is not []."""
+    return max([power + len(line) - 1 for power, line in enumerate(plane) if len(line) > 0])
+
+
 def grid_scaled(plane, factor):
     """Each number times the factor."""
     return grid_trimmed([scaled(line, factor) for line in plane])
@@ -100,6 +105,20 @@ def grid_quotient(one, two):
     if any([len(line) > 0 for line in rest]):
         return None
     return parts[::-1]
+
+
+def grid_determinant(table):
+    """The determinant of a table of polynomials in x and y, by its first row."""
+    if len(table) == 1:
+        return table[0][0]
+    total = []
+    for at, entry in enumerate(table[0]):
+        if len(entry) == 0:
+            continue
+        smaller = [row[:at] + row[at + 1:] for row in table[1:]]
+        part = grid_times(entry, grid_determinant(smaller))
+        total = grid_sum(total, part) if at % 2 == 0 else grid_less(total, part)
+    return total
 
 
 def grid_common(one, two):

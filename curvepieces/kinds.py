@@ -10,6 +10,11 @@ def is_integer(value):
     return isinstance(value, int) and not isinstance(value, bool)
 
 
+def is_count(value, most):
+    """Whether any value is a COUNT that is at most the bound."""
+    return is_integer(value) and 0 <= value <= most
+
+
 def is_list(value):
     """Whether any value is let where a list is told."""
     return isinstance(value, (list, tuple))
@@ -32,7 +37,7 @@ def check_number(number):
 
 def check_many(many, most):
     """InvalidMany unless a COUNT that is at most the bound."""
-    if not is_integer(many) or many < 0 or many > most:
+    if not is_count(many, most):
         raise InvalidMany(many)
 
 

@@ -29,12 +29,17 @@ def check_change(change):
         raise InvalidChange(change)
 
 
+def change_planes(change):
+    """The two polynomials in x and y that a change puts in the place of x and of y."""
+    a, b, c, d, e, k = change
+    return grid_trimmed([[c, b], [a]]), grid_trimmed([[k, e], [d]])
+
+
 def changed(plane, change):
     """The plane with a x + b y + c in the place of x, d x + e y + k in that of y, both at once."""
     check_plane(plane)
     check_change(change)
-    a, b, c, d, e, k = change
-    x, y = grid_trimmed([[c, b], [a]]), grid_trimmed([[k, e], [d]])
+    x, y = change_planes(change)
     result = []
     for line in plane[::-1]:
         inner = []

@@ -4,7 +4,7 @@ from curvepieces.errors import InvalidLine, TooMany, ZeroLine
 from curvepieces.kinds import check_number, is_integer, is_list
 from curvepieces.polys import poly_common, poly_divided, poly_less, poly_plain, poly_slope, poly_sum, poly_times
 from curvepieces.polys import poly_value
-from curvepieces.tables import determinant
+from curvepieces.tables import determinant, sylvester
 
 LINE_DEGREE = 12
 
@@ -95,12 +95,4 @@ def resultant(line, other):
     check_lines(line, other)
     if len(line) == 0 or len(other) == 0:
         raise ZeroLine()
-    return determinant(_sylvester(line, other))
-
-
-def _sylvester(line, other):
-    """As many rows of each line as the other one's degree tells, each one place further to the right."""
-    m, n = len(line) - 1, len(other) - 1
-    above = [[0] * i + list(line[::-1]) + [0] * (n - 1 - i) for i in range(n)]
-    below = [[0] * i + list(other[::-1]) + [0] * (m - 1 - i) for i in range(m)]
-    return above + below
+    return determinant(sylvester(line, other, 0))

@@ -2,8 +2,7 @@
 
 from math import lcm
 
-from curvepieces.grids import grid_at_y, grid_degrees, grid_less, grid_plain, grid_slope_x, grid_sum, grid_times
-from curvepieces.grids import grid_trimmed
+from curvepieces.grids import grid_at_y, grid_degrees, grid_determinant, grid_plain, grid_slope_x, grid_trimmed
 from curvepieces.kinds import is_list
 from curvepieces.planeparts import is_clean_place
 from curvepieces.planes import PLANE_DEGREE
@@ -40,7 +39,7 @@ def rows_product(root, rows):
     columns = [_shifted(root, rows, bottom, power) for power in range(len(root) - 1)]
     table = [[grid_trimmed([[number[at] for number in line] for line in column]) for column in columns]
              for at in range(len(root) - 1)]
-    return grid_plain(_grid_determinant(table))
+    return grid_plain(grid_determinant(table))
 
 
 def _common_bottom(rows):
@@ -55,18 +54,6 @@ def _common_bottom(rows):
 def _shifted(root, rows, bottom, power):
     """The rows times the bottom and the power of the root, INTEGERS by its powers in the place of each number."""
     return [[led(root, [0] * power + scaled(numbers, bottom // part)) for numbers, part in line] for line in rows]
-
-
-def _grid_determinant(table):
-    """The determinant of a table of polynomials in x and y, by its first row."""
-    if len(table) == 1:
-        return table[0][0]
-    total = []
-    for at, entry in enumerate(table[0]):
-        smaller = [row[:at] + row[at + 1:] for row in table[1:]]
-        part = grid_times(entry, _grid_determinant(smaller))
-        total = grid_sum(total, part) if at % 2 == 0 else grid_less(total, part)
-    return total
 
 
 def rows_go_into(root, plane, rows):

@@ -82,3 +82,14 @@ def solutions(rows, width):
             numbers[column] = -row[loose]
         found.append(numbers)
     return found
+
+
+def sylvester(one, two, nought):
+    """Sylvester's table of polynomials in one letter, told with noughts of the kind of their numbers.
+
+    It has as many rows of each one as the other one's degree tells, each row one place further to the right.
+    """
+    m, n = len(one) - 1, len(two) - 1
+    above = [[nought] * i + list(one[::-1]) + [nought] * (n - 1 - i) for i in range(n)]
+    below = [[nought] * i + list(two[::-1]) + [nought] * (m - 1 - i) for i in range(m)]
+    return above + below

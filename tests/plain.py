@@ -331,3 +331,59 @@ def goes_modulo(part, whole, prime):
         rest = modulo(spread_plus(rest, {(i + top[0] - lead[0], j + top[1] - lead[1]): number
                                          for (i, j), number in part.items()}, -factor), prime)
     return True
+
+
+# Polynomials in one letter with numbers over a root: lists of tuples of fractions from the power 0 on.
+
+def over_line(root, line):
+    """The polynomial of a line."""
+    return over_cut([over(root, [number]) for number in line])
+
+
+def over_cut(numbers):
+    numbers = list(numbers)
+    while numbers and not any(numbers[-1]):
+        numbers.pop()
+    return numbers
+
+
+def over_plus(one, two):
+    return tuple([a + b for a, b in zip(one, two)])
+
+
+def over_poly_plus(root, one, two):
+    size, nought = max(len(one), len(two)), over(root, [])
+    one, two = list(one) + [nought] * (size - len(one)), list(two) + [nought] * (size - len(two))
+    return over_cut([over_plus(a, b) for a, b in zip(one, two)])
+
+
+def over_poly_times(root, factor, poly):
+    """Each number times the factor."""
+    return over_cut([over_times(root, factor, number) for number in poly])
+
+
+def over_inverse(root, one):
+    """One divided by a number that is not nought."""
+    columns = [over(root, [0] * power + list(one)) for power in range(len(root) - 1)]
+    return tuple(solved(columns, list(over(root, [1]))))
+
+
+def over_common(root, one, two):
+    """The common part with the last number one; [] of twice []."""
+    while two:
+        inverse, rest = over_inverse(root, two[-1]), list(one)
+        while len(rest) >= len(two):
+            factor = over_times(root, rest[-1], inverse)
+            shift = [over(root, [])] * (len(rest) - len(two))
+            less = shift + over_poly_times(root, tuple([-part for part in factor]), two)
+            rest = over_poly_plus(root, rest, less)
+        one, two = two, rest
+    return over_poly_times(root, over_inverse(root, one[-1]), one) if one else []
+
+
+def over_value(root, poly, place):
+    """What comes when a number over the root is put for the letter."""
+    total = over(root, [])
+    for number in poly[::-1]:
+        total = over_plus(over_times(root, total, place), number)
+    return total

@@ -34,9 +34,12 @@ class ExamplesTest(unittest.TestCase):
     def test_rests_modulo_primes_guards_curves_and_followers(self):
         self.run_file("stage4.txt", 13)
 
+    def test_equations_passings_meetings_and_texts(self):
+        self.run_file("stage5.txt", 12)
+
     def test_how_to_use_it(self):
         with open(README, encoding="ascii") as file:
-            self.run_text("README.md", file.read().replace("```", ""), 26)
+            self.run_text("README.md", file.read().replace("```", ""), 35)
 
 
 if __name__ == "__main__":

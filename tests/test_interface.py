@@ -36,6 +36,10 @@ INTERFACE = {
     "followers": {"is_follower": ["curve", "value"], "follower_degrees": ["curve"], "followers": ["curve"],
                   "is_pair": ["curve", "value"], "follower_count": ["curve", "many"],
                   "by_pair": ["curve", "pair", "follower"]},
+    "equations": {"is_form": ["value"], "equation": ["curve"], "drawn": ["curve"], "lies_on": ["curve", "form"]},
+    "passings": {"passings": ["curve", "root", "point"], "passing_count": ["curve", "root", "point"]},
+    "meetings": {"meetings": ["curve", "form"]},
+    "texts": {"line_text": ["line"], "plane_text": ["plane"], "curve_text": ["curve"], "change_text": ["change"]},
 }
 
 
