@@ -29,6 +29,15 @@ def is_positions(value, size):
     return len(set(value)) == len(value)
 
 
+def copied(value):
+    """The value with new lists and tuples, also inside."""
+    if isinstance(value, list):
+        return [copied(part) for part in value]
+    if isinstance(value, tuple):
+        return tuple([copied(part) for part in value])
+    return value
+
+
 def check_number(number):
     """InvalidNumber unless an INTEGER."""
     if not is_integer(number):

@@ -56,7 +56,7 @@ NOT_FORMS = STRANGE + [0, 1, -7, [], (), ([[1]],), [[1]], [[[0, 1]], 1], [[[1]],
 
 def refused(test, error, function, /, *given, **named):
     """The error that the call raises: its class is just this one."""
-    told = f"{function.__name__}{given}{named}"
+    told = f"{getattr(function, '__name__', function)}{given}{named}"
     try:
         result = function(*given, **named)
     except Exception as raised:

@@ -17,7 +17,8 @@ from tests.test_curves import CIRCLE, CURVES, CUSP, KNOT, STRAIGHT, mixed_curves
 TWICE, BEND = [[0, 0, 1], [0, 0, 0, 0, 1], [1]], [[0, 1], [0, 0, 1], [1]]
 
 # Curves that are drawn several times, and how often.
-REPEATED = [(TWICE, 2), ([[0, 0, 1], [0, 0, 2], [1]], 2), (by_time(CIRCLE, [3, 0, 1]), 2), (by_time(BEND, [1, -5, 2]), 2),
+REPEATED = [(TWICE, 2), ([[0, 0, 1], [0, 0, 2], [1]], 2), (by_time(CIRCLE, [3, 0, 1]), 2),
+            (by_time(BEND, [1, -5, 2]), 2),
             (by_time(STRAIGHT, [1, 2, 0, 3]), 3), (by_time(STRAIGHT, [0, 0, 0, 0, 7]), 4),
             (by_time(STRAIGHT, [1, 0, 0, 0, 0, -2]), 5), ([[1], [], [0, 0, 0, 0, 0, 1]], 5),
             # Not by a line in the place of the time, but by a quotient of two.
@@ -82,7 +83,8 @@ def leading_times(curve, time):
 class FormTest(unittest.TestCase):
 
     def test_forms(self):
-        for value in (([[0, 1]], 1), ([[1]], 0), ([[-7]], 0), ([[1]], 1), ([[5]], 8), ([[], [1]], 1), ([[0, 0, -2], [], [1]], 2),
+        for value in (([[0, 1]], 1), ([[1]], 0), ([[-7]], 0), ([[1]], 1), ([[5]], 8), ([[], [1]], 1),
+                      ([[0, 0, -2], [], [1]], 2),
                       ([[0] * 8 + [1]], 8), ([[]] * 8 + [[1]], 8), ([[0, 0, 1], [0, 1], [1]], 7),
                       ([[], [], [], [], [0, 0, 0, 0, 3]], 8), ([[1, 2, 3], [4, 5], [6]], 2)):
             self.assertIs(is_form(value), True, value)

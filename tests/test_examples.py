@@ -37,9 +37,12 @@ class ExamplesTest(unittest.TestCase):
     def test_equations_passings_meetings_and_texts(self):
         self.run_file("stage5.txt", 12)
 
+    def test_readers_claims_commands_and_desks(self):
+        self.run_file("stage6.txt", 12)
+
     def test_how_to_use_it(self):
         with open(README, encoding="ascii") as file:
-            self.run_text("README.md", file.read().replace("```", ""), 35)
+            self.run_text("README.md", file.read().replace("```", ""), 48)
 
 
 if __name__ == "__main__":

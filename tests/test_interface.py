@@ -4,6 +4,8 @@ import importlib
 import inspect
 import unittest
 
+from curvepieces import desk
+
 INTERFACE = {
     "numbers": {"greatest": ["number", "other"], "is_prime": ["value"]},
     "lines": {"is_line": ["value"], "degree": ["line"], "line_value": ["line", "number"], "line_slope": ["line"],
@@ -40,6 +42,19 @@ INTERFACE = {
     "passings": {"passings": ["curve", "root", "point"], "passing_count": ["curve", "root", "point"]},
     "meetings": {"meetings": ["curve", "form"]},
     "texts": {"line_text": ["line"], "plane_text": ["plane"], "curve_text": ["curve"], "change_text": ["change"]},
+    "readers": {"line_of": ["text"], "plane_of": ["text"], "curve_of": ["text"], "change_of": ["text"]},
+    "claims": {"words": [], "is_claim": ["value"], "is_true": ["claim"], "contrary": ["claim"], "paper_of": ["claim"],
+               "is_paper_of": ["claim", "value"]},
+    "commands": {"is_name": ["value"], "is_command": ["value"], "is_deed": ["value"]},
+    "desk": {"tried": ["desk", "action"]},
+}
+
+# The methods that each class defines itself, with their parameters but the first one; * is for those of any number.
+CLASSES = {
+    "Desk": {"__init__": [], "__len__": [], "__getitem__": None, "__contains__": None, "__call__": ["command"],
+             "claim_of": ["label"], "do": ["command"], "do_all": ["*commands"], "attempt": ["*commands"],
+             "attach": ["label", "paper"], "fits": ["label"], "lines": [], "copy": [], "again": ["lines"]},
+    "Trial": {"__init__": ["desk"], "__enter__": [], "__exit__": None},
 }
 
 
@@ -57,6 +72,21 @@ class InterfaceTest(unittest.TestCase):
                 for parameter in parameters:
                     self.assertIs(parameter.kind, inspect.Parameter.POSITIONAL_OR_KEYWORD)
                     self.assertIs(parameter.default, inspect.Parameter.empty)
+
+    def test_classes(self):
+        for name, methods in CLASSES.items():
+            found = getattr(desk, name)
+            self.assertEqual((found.__module__, found.__bases__), ("curvepieces.desk", (object,)))
+            for method, wanted in methods.items():
+                function = vars(found)[method]
+                self.assertIs(isinstance(function, classmethod), method == "again")
+                if wanted is not None:
+                    parameters = list(inspect.signature(getattr(function, "__func__", function)).parameters.values())
+                    told = ["*" * (parameter.kind is inspect.Parameter.VAR_POSITIONAL) + parameter.name
+                            for parameter in parameters[1:]]
+                    self.assertEqual(told, wanted, method)
+        for name in ("names", "labels"):
+            self.assertIsInstance(vars(desk.Desk)[name], property)
 
 
 if __name__ == "__main__":

@@ -140,6 +140,46 @@ class RowsTest(unittest.TestCase):
                 if isinstance(node, ast.Call) and isinstance(node.func, ast.Attribute):
                     self.assertIn(node.func.attr, METHODS | own, f"{name}:{node.lineno}")
 
+    def test_handlers(self):
+        # Own errors, KeyError and ZeroDivisionError: nothing else is caught here.
+        own = set(defined(dict(trees())["errors.py"]))
+        for name, tree in trees():
+            for node in ast.walk(tree):
+                if isinstance(node, ast.ExceptHandler):
+                    caught = node.type.elts if isinstance(node.type, ast.Tuple) else [node.type]
+                    for told in caught:
+                        self.assertIn(told.id, own | {"KeyError", "ZeroDivisionError"}, f"{name}:{node.lineno}")
+                if isinstance(node, ast.Raise) and node.exc is not None:
+                    self.assertIsInstance(node.exc, ast.Call, f"{name}:{node.lineno}")
+                    self.assertIn(node.exc.func.id, own | {"TypeError"}, f"{name}:{node.lineno}")
+
+    def test_classes(self):
+        assigned, read = set(), {}
+        for name, tree in trees():
+            for node in ast.walk(tree):
+                if isinstance(node, ast.ClassDef):
+                    methods = [part.name for part in node.body if isinstance(part, ast.FunctionDef)]
+                    self.assertEqual(len(set(methods)), len(methods), node.name)
+                    inside = {part.attr for part in ast.walk(node) if isinstance(part, ast.Attribute)
+                              and isinstance(part.ctx, ast.Store) and getattr(part.value, "id", "") == "self"}
+                    self.assertFalse(inside & set(methods), node.name)
+                    self.assertEqual("__getitem__" in methods, "__iter__" in methods)
+                if isinstance(node, ast.Attribute) and isinstance(node.ctx, ast.Store):
+                    assigned.add(node.attr)
+                elif isinstance(node, ast.Attribute):
+                    read[node.attr] = f"{name}:{node.lineno}"
+        own = {node.name for _, tree in trees() for node in ast.walk(tree) if isinstance(node, ast.FunctionDef)}
+        for told, where in read.items():
+            self.assertIn(told, assigned | own | METHODS, where)
+
+    def test_stars_in_calls(self):
+        for name, tree in trees():
+            for node in ast.walk(tree):
+                if isinstance(node, ast.Call):
+                    for part in node.args:
+                        if isinstance(part, ast.Starred):
+                            self.assertIsInstance(part.value, ast.Name, f"{name}:{node.lineno}")
+
     def test_words(self):
         for name, tree in trees():
             for node in ast.walk(tree):

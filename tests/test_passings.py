@@ -10,13 +10,15 @@ from curvepieces.followers import followers
 from curvepieces.passings import passing_count, passings
 from curvepieces.rootnumbers import root_times
 from tests import plain
-from tests.support import (NOT_CURVES, NOT_ROOTS, STRANGE, Dice, Thing, as_tuples, check_call, check_parameters, exactly,
+from tests.support import (NOT_CURVES, NOT_ROOTS, STRANGE, Dice, Thing, as_tuples, check_call, check_parameters,
+                           exactly,
                            refused_value)
 from tests.test_curves import CIRCLE, CURVES, CUSP, KNOT, STRAIGHT
 from tests.test_equations import ALL, BEND, TWICE
 from tests.test_rootnumbers import Case, mixed, not_over, whole
 
-SMALL = [[0, 1], [-3, 1], [-2, 0, 1], [1, 0, 1], [1, 1, 1], [-2, 0, 0, 1], [5, -7, 3, 1], [1, 0, 0, 0, 1], [-2, 0, 0, 0, 1]]
+SMALL = [[0, 1], [-3, 1], [-2, 0, 1], [1, 0, 1], [1, 1, 1], [-2, 0, 0, 1], [5, -7, 3, 1], [1, 0, 0, 0, 1],
+         [-2, 0, 0, 0, 1]]
 
 NOUGHT, ONE = ([0], 1), ([1], 1)
 

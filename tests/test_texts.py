@@ -46,9 +46,11 @@ def mixed_changes(seed, many):
 class LineTest(unittest.TestCase):
 
     def test_told_ones(self):
-        for line, text in (([], "0"), ([0, 1], "t"), ([0, -1], "-t"), ([1], "1"), ([-1], "-1"), ([7], "7"), ([-20], "-20"),
+        for line, text in (([], "0"), ([0, 1], "t"), ([0, -1], "-t"), ([1], "1"), ([-1], "-1"), ([7], "7"),
+                           ([-20], "-20"),
                            ([1, 1], "t + 1"), ([-1, -1], "-t - 1"), ([-1, 1], "t - 1"), ([1, -1], "-t + 1"),
-                           ([-2, 0, -1], "-tt - 2"), ([0, 0, 5], "5tt"), ([0, 0, -5], "-5tt"), ([3, -2, 1], "tt - 2t + 3"),
+                           ([-2, 0, -1], "-tt - 2"), ([0, 0, 5], "5tt"), ([0, 0, -5], "-5tt"),
+                           ([3, -2, 1], "tt - 2t + 3"),
                            ([10, 0, 0, -11], "-11ttt + 10"), ([0] * 12 + [1], "tttttttttttt"),
                            ([1, 0, -1, 1, 0, -12], "-12ttttt + ttt - tt + 1"),
                            ([-10 ** 41, 10 ** 40], "1" + "0" * 40 + "t - 1" + "0" * 41)):
@@ -69,11 +71,14 @@ class LineTest(unittest.TestCase):
 class PlaneTest(unittest.TestCase):
 
     def test_told_ones(self):
-        for plane, text in (([], "0"), ([[1]], "1"), ([[-1]], "-1"), ([[0, 1]], "y"), ([[], [1]], "x"), ([[], [-1]], "-x"),
+        for plane, text in (([], "0"), ([[1]], "1"), ([[-1]], "-1"), ([[0, 1]], "y"), ([[], [1]], "x"),
+                            ([[], [-1]], "-x"),
                             ([[0, -1]], "-y"), ([[0, 0, -2], [], [1]], "xx - 2yy"), ([[], [0, 1]], "xy"),
                             ([[5, 1], [2, -1]], "-xy + 2x + y + 5"), ([[-5, -1], [-2, 1]], "xy - 2x - y - 5"),
-                            ([[], [], [0, 0, 3]], "3xxyy"), ([[0, 0, 0, 1], [0, 0, -1], [0, 1], [-1]], "-xxx + xxy - xyy + yyy"),
-                            ([[1, 0, 1], [0, 0, 1]], "xyy + yy + 1"), ([[999999]], "999999"), ([[-30, 0, 40]], "40yy - 30"),
+                            ([[], [], [0, 0, 3]], "3xxyy"), ([[0, 0, 0, 1], [0, 0, -1], [0, 1], [-1]],
+                                                             "-xxx + xxy - xyy + yyy"),
+                            ([[1, 0, 1], [0, 0, 1]], "xyy + yy + 1"), ([[999999]], "999999"),
+                            ([[-30, 0, 40]], "40yy - 30"),
                             ([[0] * 8 + [1]] + [[]] * 7 + [[0] * 8 + [-1]], "-xxxxxxxxyyyyyyyy + yyyyyyyy")):
             self.assertEqual(exactly(plane_text(plane)), exactly(text))
             self.assertEqual(plane_text(plane=as_tuples(plane)), text)
@@ -82,7 +87,8 @@ class PlaneTest(unittest.TestCase):
         for plane in mixed_planes(171, 150):
             text = plane_text(plane)
             self.assertRegex(text, FORM)
-            wanted = [(number, "x" * i + "y" * j) for (i, j), number in sorted(plain.spread(plane).items(), reverse=True)]
+            wanted = [(number, "x" * i + "y" * j) for (i, j), number in sorted(plain.spread(plane).items(),
+                                                                               reverse=True)]
             self.assertEqual(terms_of(text), wanted, text)
 
 
@@ -103,7 +109,8 @@ class CurveTest(unittest.TestCase):
 class ChangeTest(unittest.TestCase):
 
     def test_told_ones(self):
-        for change, text in (([1, 2, 0, 0, 1, -1], "x + 2y : y - 1"), ([1, 0, 0, 0, 1, 0], "x : y"), ([0, 1, 0, 1, 0, 0], "y : x"),
+        for change, text in (([1, 2, 0, 0, 1, -1], "x + 2y : y - 1"), ([1, 0, 0, 0, 1, 0], "x : y"),
+                             ([0, 1, 0, 1, 0, 0], "y : x"),
                              ([0, -1, 0, -1, 0, 0], "-y : -x"), ([-3, 1, -1, 1, 1, 1], "-3x + y - 1 : x + y + 1"),
                              ([0, 5, 6, 7, 0, -8], "5y + 6 : 7x - 8"), ((2, 0, 0, 0, 2, 0), "2x : 2y")):
             self.assertEqual(exactly(change_text(change)), exactly(text))
