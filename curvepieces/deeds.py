@@ -3,7 +3,7 @@
 from curvepieces.commands import DEEDS, NUMBER_FIGURES, command_parts, command_word, wanted_kinds
 from curvepieces.curves import by_time, check_curve
 from curvepieces.equations import equation
-from curvepieces.errors import LabelTaken, NameTaken, UnknownName
+from curvepieces.errors import LabelTaken, NameTaken
 from curvepieces.letters import changed, check_change, exchanged
 from curvepieces.planeparts import plane_common, plane_quotient
 from curvepieces.planes import at_y, plain_plane, plane_less, plane_sum, plane_times, slope_x
@@ -17,7 +17,7 @@ MADE = {"line": "line", "row": "line", "parting": "line", "curve": "curve", "dra
 
 
 def given_for(shelf, command):
-    """For each part behind the word of a command what it tells: a thing for its name, an INTEGER, or itself.
+    """For each part behind the word of a command what it tells: a thing for its name, a NUMBER, or the part itself.
 
     NameTaken or LabelTaken of what is new, UnknownName and UnknownLabel of the rest, in the sequence of the parts.
     """
@@ -43,14 +43,12 @@ def _given(shelf, kind, part, ahead):
             check_label(shelf, part)
             return part
         case "name":
-            if part not in shelf.things:
-                raise UnknownName(part)
             return thing_of(shelf, part, kind_of(shelf, part))
         case "other":
             return thing_of(shelf, part, kind_of(shelf, ahead))
         case "plane" | "line" | "curve" | "change":
             return thing_of(shelf, part, kind)
-        case "count" | "number":
+        case "number":
             return int(part)
         case _:
             return part

@@ -92,7 +92,7 @@ class Desk:
         return len(self.book.done)
 
     def __getitem__(self, at):
-        if not is_name(at) or at not in self.book.shelf.things:
+        if not is_name(at):
             raise UnknownName(at)
         return thing_of(self.book.shelf, at, kind_of(self.book.shelf, at))
 

@@ -2,7 +2,7 @@
 
 from curvepieces.claims import is_claim, is_true
 from curvepieces.commands import CLAIMS
-from curvepieces.errors import InvalidClaim, NotClean, TooMany, UnknownLabel, UnknownName
+from curvepieces.errors import NotClean, TooMany, UnknownLabel, UnknownName
 from curvepieces.kinds import copied
 
 THINGS_MOST = 12
@@ -73,11 +73,8 @@ def _with_things(shelf, things, name):
 
 
 def with_claim(shelf, label, told):
-    """The shelf with the claim of these words under the label; InvalidClaim, or what is_true raises, if it has none."""
-    claim = _claim_of(shelf.things, told)
-    if not is_claim(claim):
-        raise InvalidClaim(claim)
-    state = _word_of(is_true(claim))
+    """The shelf with the claim of these words under the label; what is_true raises, InvalidClaim among it."""
+    state = _word_of(is_true(_claim_of(shelf.things, told)))
     if len(shelf.noted) >= NOTED_MOST:
         raise TooMany("labels", NOTED_MOST)
     noted, states = dict(shelf.noted), dict(shelf.states)
@@ -120,7 +117,7 @@ def _claim_of(things, told):
 def _state_of(things, told):
     """The state of the claim of these words."""
     claim = _claim_of(things, told)
-    if claim is None or not is_claim(claim):
+    if not is_claim(claim):
         return GONE
     try:
         return _word_of(is_true(claim))

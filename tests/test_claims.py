@@ -322,6 +322,11 @@ class WrongPaperTest(unittest.TestCase):
                                         1,
                                         [LINE], (LINE,), [[0, -1], [True]]])
         self.refuse(("double", TWIN), [[[1]], TWIN, LINE, []])
+        # What goes into the slope alone, or into the plane alone.
+        self.refuse(("double", TWIN), [[[], [1]], [[], [-2]]])
+        plane = of(1, LINE, LINE, [[], [1]])
+        self.refuse(("double", plane), [[[], [1]], of(1, LINE, LINE), [[0, -1], [3]], of(1, LINE, [[0, -1], [3]])])
+        self.accept(("double", plane), [LINE])
 
     def test_quotients(self):
         plane = [[0, 0, 2], [0, 2]]

@@ -63,7 +63,8 @@ class KeepingTest(Case):
         self.answers(desk, "equation e c", "-", "show e", "xx - y", "drawn d w l", "-", "show d",
                      "-tttt - 6tt - 8 : 2tt + 6 : tttt + 6tt + 10", "lead c m", "-", "show c", "4tt : 16tttt : 1",
                      "equation f w", "-", "show f", "xx + yy - 1", "passes c", "2", "passes w", "1", "passes d", "2",
-                     "lesser c", "2", "lesser w", "1", "at w 2", "3,-4,-5", "at w -1", "0,1,-1", "at c 0", "0,0,1")
+                     "lesser c", "2", "lesser w", "1", "curve cusp tt:ttt:1", "-", "lesser cusp", "1", "passes cusp",
+                     "1", "curve s tt:tt:1", "-", "lesser s", "0", "passes s", "2", "at w 2", "3,-4,-5", "at w -1", "0,1,-1", "at c 0", "0,0,1")
 
     def test_turning(self):
         desk = desk_of("plane p x+y", "plane q x-y", "change v x+1:y-1", "plane kept x+y")
@@ -172,6 +173,20 @@ class StatesTest(Case):
             self.assertIs(desk.claim_of(label), None)
             self.assertIs(desk.fits(label), False)
         self.answers(desk, "claimed k", "pieces p 2", "claimed n", "whole p")
+
+    def test_a_thing_of_another_kind_is_never_taken_for_one(self):
+        # A curve of these three lines could be a plane, too, and a plane three lines of a curve.
+        desk = desk_of("plane p x-y", "claim k clean p", "claim m pieces p 1", "claim n within p p", "drop p")
+        self.answers(desk, "curve p t:t:1", "-", "states", "k gone, m gone, n gone", "drop p", "-", "plane p xx+xy+y",
+                     "k true, m true, n true", "drop p", "k gone, m gone, n gone", "line p 1", "-", "undo", "line p 1")
+        self.assertEqual(desk_of("curve c t:t:1")["c"], desk_of("plane c xx+xy+y")["c"])
+        desk = desk_of("curve c t:t:1", "plane e x-y", "claim k degrees c 0", "claim m along c e 1", "drop c")
+        self.answers(desk, "plane c xx+xy+y", "-", "states", "k gone, m gone", "drop c", "-", "curve c t:t:1",
+                     "k true, m true", "drop e", "m gone", "curve e t:t:1", "-", "drop e", "-", "plane e x-y", "m true")
+        # A line could be a change, and a change a line.
+        desk = desk_of("line l 2t+tttt+ttttt", "change v x+y:y", "plane p xx", "curve c t:tt:1")
+        for command, name in (("led n p l", "l"), ("turn p l", "l"), ("drawn n c v", "v"), ("lead c v", "v")):
+            self.fails(desk, command, UnknownName, value=name)
 
     def test_its_tuple_is_no_claim_any_more(self):
         desk = desk_of("curve c t:tt:1", "equation e c", "claim k along c e 2", "claim m aside c e 4", "change v x+1:y",
@@ -311,6 +326,8 @@ class AllTest(Case):
             self.assertIs(again.__class__, Desk)
             self.assertEqual(all_of(again), all_of(desk))
         self.assertEqual(lines, DEEDS)
+        lines.append("plane n x")
+        self.assertEqual((again.lines(), desk.lines()), (DEEDS, DEEDS))
         self.assertEqual(all_of(Desk.again(lines=[])), all_of(Desk()))
         self.assertEqual(len(Desk.again(["plane p x"])), 1)
         self.assertEqual(desk.again(()).names, [])

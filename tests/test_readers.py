@@ -210,6 +210,12 @@ class WordsTest(ReadersTest):
             for text in texts:
                 self.check(reader, text)
 
+    def test_each_character(self):
+        for reader, text in ((line_of, "tt"), (plane_of, "xy"), (curve_of, "t:2:t"), (change_of, "x:y-1")):
+            for code in [10] + [code for code in range(32, 127) if code != 37]:
+                for at in range(len(text) + 1):
+                    self.check(reader, text[:at] + chr(code) + text[at:])
+
     def test_mixed(self):
         dice = Dice(184)
         for reader in ALL:
